@@ -93,3 +93,10 @@ def outcome_as_numbers(outcome):
     if outcome is None:
         return [0]
     return [1] + row_as_numbers(outcome)
+
+
+def sides_as_numbers(sides):
+    """Sides: 1, the left one, the right one; or 0, if there are none."""
+    if sides is None:
+        return [0]
+    return [1] + row_as_numbers(sides.left) + row_as_numbers(sides.right)

@@ -54,6 +54,40 @@ def turned_list(relation, numbers):
     return [5, relation, *listed(numbers)]
 
 
+def sides(relation, *row):
+    return sides_list(relation, listed(row))
+
+
+def sides_list(relation, numbers):
+    return [6, relation, *listed(numbers)]
+
+
+def verdict(relation, *row):
+    return verdict_list(relation, listed(row))
+
+
+def verdict_list(relation, numbers):
+    return [7, relation, *listed(numbers)]
+
+
+def bound(length, low, high):
+    return [8, length, low, high]
+
+
+def nth(number):
+    """A call of the input with this number."""
+    return [9, number]
+
+
+def at(relation, number):
+    return [10, relation, number]
+
+
+def one_relation(condition="any", turning="", standing="equal", output="", program=""):
+    """A text with one relation."""
+    return f"program ( {program} ); relation {condition} input ( {turning} ) output {standing} ( {output} );"
+
+
 def ask(*calls):
     """The answers to calls on one object, a list for each call."""
     told_at_once = answers([number for call in calls for number in call])
